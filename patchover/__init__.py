@@ -1,0 +1,1 @@
+"""Patchover: editions of bytes, led over in their own place by patches."""

@@ -1,0 +1,69 @@
+"""The interface by its names and files, and what ../shared/LANGUAGE.md says of files, lines and functions."""
+
+import ast
+import pathlib
+import unittest
+
+PACKAGE = pathlib.Path(__file__).resolve().parent.parent / "patchover"
+
+# The functions of the interface that have been built, by their files, with their arguments.
+FUNCTIONS = {
+    "pieces.py": {"bytes_of": ["numbers"], "numbers_of": ["some"]},
+    "patches.py": {
+        "done": ["patch", "edition"], "needs": ["patch"], "makes": ["patch"], "cells": ["patch"],
+        "plain": ["patch"], "joined": ["patches"],
+    },
+}
+
+
+def sources():
+    """Tell the files of the package with their texts."""
+    return {path.name: path.read_text("utf-8") for path in sorted(PACKAGE.glob("*.py"))}
+
+
+class TestInterface(unittest.TestCase):
+    def test_each_function_is_defined_in_its_file(self):
+        texts = sources()
+        for name, functions in FUNCTIONS.items():
+            defined = {
+                row.name: [one.arg for one in row.args.args]
+                for row in ast.parse(texts[name]).body if isinstance(row, ast.FunctionDef)
+            }
+            for function, arguments in functions.items():
+                with self.subTest(name, function=function):
+                    self.assertEqual(defined.get(function), arguments)
+
+
+class TestLanguage(unittest.TestCase):
+    def test_the_package_holds_sources_alone(self):
+        others = [
+            path.name for path in PACKAGE.iterdir() if path.suffix != ".py" and path.name != "__pycache__"
+        ]
+        self.assertEqual(others, [])
+
+    def test_files_and_lines_are_short_and_plain(self):
+        for name, text in sources().items():
+            with self.subTest(name):
+                self.assertLessEqual(len(text.splitlines()), 399)
+                self.assertLessEqual(max([len(line) for line in text.splitlines()], default=0), 120)
+                self.assertEqual([sign for sign in text if sign != "\n" and not " " <= sign <= "~"], [])
+
+    def test_functions_are_short(self):
+        for name, text in sources().items():
+            for node in ast.walk(ast.parse(text)):
+                if isinstance(node, ast.FunctionDef):
+                    with self.subTest(name, function=node.name):
+                        self.assertLessEqual(node.end_lineno - node.lineno + 1, 40)
+
+    def test_imports_are_of_the_package(self):
+        for name, text in sources().items():
+            for node in ast.walk(ast.parse(text)):
+                with self.subTest(name):
+                    self.assertNotIsInstance(node, ast.Import)
+                    if isinstance(node, ast.ImportFrom):
+                        self.assertEqual(node.level, 0)
+                        self.assertTrue(node.module.startswith("patchover."))
+
+
+if __name__ == "__main__":
+    unittest.main()
