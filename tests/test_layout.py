@@ -13,6 +13,13 @@ FUNCTIONS = {
         "done": ["patch", "edition"], "needs": ["patch"], "makes": ["patch"], "cells": ["patch"],
         "plain": ["patch"], "joined": ["patches"],
     },
+    "coding.py": {"coded": ["patch"], "decoded": ["some"], "size": ["patch"]},
+    "finding.py": {"least": ["old", "new"]},
+    "hanging.py": {
+        "hangs": ["patch"], "order": ["patch"], "ring": ["patch"],
+        "follows": ["patch", "told"], "is_ring": ["patch", "told"],
+    },
+    "carrying.py": {"lightest": ["patch"], "brought": ["patch", "pieces", "edition"]},
 }
 
 

@@ -6,8 +6,7 @@ import unittest
 
 from patchover.errors import BadCount, BadEdition, BadMeet, BadPatch, Beyond
 from patchover.patches import cells, done, joined, makes, needs, plain
-
-FULL = bytes(range(200))
+from tests.samples import BEYOND_EDGES, EDGES, FULL, small_patches
 
 # Each function that is handed a patch, with an edition that is long enough, if it wants one.
 WAYS = {
@@ -20,34 +19,6 @@ WAYS = {
     "joined first": lambda patch: joined([patch, ()]),
     "joined last": lambda patch: joined([(("copy", 0, 200),), patch]),
 }
-
-# Pieces at the edges of what can be.
-EDGES = (
-    ("copy", 0, 1), ("copy", 0, 200), ("copy", 199, 1), ("copy", 150, 50),
-    ("bring", b"\x00"), ("bring", b"\xff"), ("bring", b"ab" * 100),
-    ("run", 0, 1), ("run", 255, 1), ("run", 0, 200), ("run", 255, 200),
-)
-
-# One beyond each edge, and what isn't a piece at all.
-BEYOND_EDGES = (
-    ("copy", -1, 1), ("copy", -1, 3), ("copy", 200, 1), ("copy", 200, 0), ("copy", 0, 0), ("copy", 3, 0),
-    ("copy", 3, -1), ("copy", 0, 201), ("copy", 1, 200), ("copy", 199, 2), ("copy", 150, 51),
-    ("bring", b""), ("bring", b"x" * 201),
-    ("run", -1, 1), ("run", 256, 1), ("run", 7, 0), ("run", 7, -1), ("run", 7, 201),
-    ("move", 0, 1), ("move", b"ab"), ("copy", 1), ("copy", 1, 1, 1), ("run", 1), ("bring",), (),
-    ("copy", True, 1), ("copy", 0, True), ("run", False, 1), ("run", 7, True),
-)
-
-# Few pieces, of which all short patches are tried out; their bytes are numbers that are copied, too.
-SMALL = (
-    ("copy", 0, 1), ("copy", 1, 2), ("copy", 3, 1), ("bring", b"\x03"), ("bring", b"\x03\x03"),
-    ("bring", b"\x03\x02"), ("run", 3, 1), ("run", 3, 2), ("run", 3, 3), ("run", 2, 4),
-)
-
-
-def small_patches(most):
-    """Tell all patches of at most so many of the small pieces."""
-    return [patch for many in range(most + 1) for patch in itertools.product(SMALL, repeat=many)]
 
 
 class TestPatches(unittest.TestCase):
