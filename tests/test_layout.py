@@ -20,6 +20,18 @@ FUNCTIONS = {
         "follows": ["patch", "told"], "is_ring": ["patch", "told"],
     },
     "carrying.py": {"lightest": ["patch"], "brought": ["patch", "pieces", "edition"]},
+    "stepping.py": {"steps": ["patch", "order"], "marks": ["steps"], "unsafe": ["steps", "marks"]},
+    "cutting.py": {"histories": ["edition", "patch"], "all_end": ["edition", "patch", "cuts"]},
+}
+
+# The classes likewise, with the arguments of their methods.
+CLASSES = {
+    "devices.py": {
+        "Device": {
+            "__init__": ["edition"], "begin": ["patch"], "go": ["many"], "cut": [], "wake": [], "edition": [],
+            "peek": ["cell"], "old": [], "wear": [], "places_worn": [], "under_way": [], "stands": [],
+        },
+    },
 }
 
 
@@ -28,17 +40,29 @@ def sources():
     return {path.name: path.read_text("utf-8") for path in sorted(PACKAGE.glob("*.py"))}
 
 
+def arguments_of(body):
+    """Tell the functions of a body with their arguments."""
+    return {row.name: [one.arg for one in row.args.args] for row in body if isinstance(row, ast.FunctionDef)}
+
+
 class TestInterface(unittest.TestCase):
     def test_each_function_is_defined_in_its_file(self):
         texts = sources()
         for name, functions in FUNCTIONS.items():
-            defined = {
-                row.name: [one.arg for one in row.args.args]
-                for row in ast.parse(texts[name]).body if isinstance(row, ast.FunctionDef)
-            }
+            defined = arguments_of(ast.parse(texts[name]).body)
             for function, arguments in functions.items():
                 with self.subTest(name, function=function):
                     self.assertEqual(defined.get(function), arguments)
+
+    def test_each_method_is_defined_in_its_class(self):
+        texts = sources()
+        for name, classes in CLASSES.items():
+            bodies = {row.name: row.body for row in ast.parse(texts[name]).body if isinstance(row, ast.ClassDef)}
+            for kind, methods in classes.items():
+                defined = arguments_of(bodies[kind])
+                for method, arguments in methods.items():
+                    with self.subTest(name, kind=kind, method=method):
+                        self.assertEqual(defined.get(method), ["self", *arguments])
 
 
 class TestLanguage(unittest.TestCase):
