@@ -34,6 +34,11 @@ def brought(patch, pieces, edition):
     ])
 
 
+def as_done(patch, edition):
+    """Tell a patch as it's done in place: with lightest's pieces brought of the old edition."""
+    return brought(patch, lightest(patch)[1], edition)
+
+
 def check_copies(patch, pieces):
     """Refuse a list that isn't one of copies, rising."""
     least = 0

@@ -7,6 +7,8 @@ from patchover.pieces import check_patch, length_of
 WORDS = ("copy", "bring", "run")
 NO_WORD = 3
 SEVENS = 128
+# A patch has no number that takes more bytes than this.
+MOST_SEVENS = 2
 CHECK = 251
 
 
@@ -16,7 +18,7 @@ def coded(patch):
     some = number_code(len(patch))
     for piece in patch:
         some += piece_code(piece)
-    return some + bytes([check_of(some)])
+    return with_check(some)
 
 
 def decoded(some):
@@ -36,15 +38,17 @@ def size(patch):
 
 
 def number_code(number):
-    """Tell the code of a number."""
-    if number < SEVENS:
-        return bytes([number])
-    return bytes([SEVENS + (number & (SEVENS - 1)), number // SEVENS])
+    """Tell the code of a number, by sevens, in as many bytes as it needs."""
+    told = []
+    while number >= SEVENS:
+        told.append(SEVENS + (number & (SEVENS - 1)))
+        number = number // SEVENS
+    return bytes([*told, number])
 
 
 def number_size(number):
-    """Tell how many bytes the code of a number has."""
-    return 1 if number < SEVENS else 2
+    """Tell how many bytes the code of a patch's number has."""
+    return 1 if number < SEVENS else MOST_SEVENS
 
 
 def first_number(piece):
@@ -77,16 +81,32 @@ def check_of(some):
     return sum(some) % CHECK
 
 
+def with_check(some):
+    """Tell these bytes with their check behind them."""
+    return some + bytes([check_of(some)])
+
+
 def code_at(some, begin):
     """Read the code that begins at a place, and tell its pieces and the place behind it."""
     many, place = number_at(some, begin)
-    pieces = []
+    pieces, place = several_at(piece_at, some, place, many)
+    return tuple(pieces), check_at(some, begin, place)
+
+
+def several_at(one_at, some, place, many):
+    """Read so many of what one_at reads, and tell a list of them and the place behind the last one."""
+    told = []
     for _ in range(many):
-        piece, place = piece_at(some, place)
-        pieces.append(piece)
+        one, place = one_at(some, place)
+        told.append(one)
+    return told, place
+
+
+def check_at(some, begin, place):
+    """Read the check of all bytes from begin on, and tell the place behind it."""
     if byte_at(some, place) != check_of(some[begin:place]):
         raise BadCode(place)
-    return tuple(pieces), place + 1
+    return place + 1
 
 
 def byte_at(some, place):
@@ -96,15 +116,26 @@ def byte_at(some, place):
     return some[place]
 
 
-def number_at(some, place):
-    """Read the number that begins at a place, and tell it and the place behind it."""
-    first = byte_at(some, place)
-    if first < SEVENS:
-        return first, place + 1
-    times = byte_at(some, place + 1)
-    if times == 0 or times >= SEVENS:
-        raise BadCode(place + 1)
-    return first - SEVENS + times * SEVENS, place + 2
+def bytes_at(some, place, many):
+    """Read so many bytes from a place on, and tell them and the place behind them."""
+    if place + many > len(some):
+        raise BadCode(len(some))
+    return some[place:place + many], place + many
+
+
+def number_at(some, begin, most=MOST_SEVENS):
+    """Read the number of at most so many bytes that begins at a place, and tell it and the place behind it."""
+    number = 0
+    worth = 1
+    for place in range(begin, begin + most):
+        byte = byte_at(some, place)
+        number += (byte & (SEVENS - 1)) * worth
+        worth *= SEVENS
+        if byte == 0 and place > begin:
+            raise BadCode(place)
+        if byte < SEVENS:
+            return number, place + 1
+    raise BadCode(begin + most - 1)
 
 
 def piece_at(some, place):
@@ -122,6 +153,5 @@ def piece_at(some, place):
         return ("copy", begin, many), behind
     if word == "run":
         return ("run", byte_at(some, behind), many), behind + 1
-    if behind + many > len(some):
-        raise BadCode(len(some))
-    return ("bring", some[behind:behind + many]), behind + many
+    brought, behind = bytes_at(some, behind, many)
+    return ("bring", brought), behind

@@ -1,6 +1,6 @@
 """A device that is led from one edition to the next in its own place, and may be cut at any write."""
 
-from patchover.carrying import brought, lightest
+from patchover.carrying import as_done
 from patchover.errors import Asleep, Awake, BadCell, BadCount, Underway
 from patchover.hanging import order
 from patchover.patches import makes
@@ -8,6 +8,8 @@ from patchover.pieces import check_edition, check_patch, check_reach, is_number,
 from patchover.stepping import marks, steps
 
 CELLS = 200
+# So many places are for marks.
+PLACES = 2
 MOST_WRITES = 10000
 
 
@@ -31,7 +33,7 @@ class Device:
         self._wear = [0] * CELLS
         # What a place holds is its mark, or None, if it's torn.
         self._places = [None, 0]
-        self._places_worn = [0, 0]
+        self._places_worn = [0] * PLACES
         self._many = len(edition)
         self._work = None
         # How many steps are done, how many marks, and how many writes of the mark that is due.
@@ -49,7 +51,7 @@ class Device:
             raise Underway("another patch is under way")
         before = self.edition()
         check_reach(patch, before)
-        self._work = Work(before, brought(patch, lightest(patch)[1], before))
+        self._work = Work(before, as_done(patch, before))
         self._places = [None, 0]
         self._go_on_from_mark()
         self._end_if_done()
@@ -120,6 +122,14 @@ class Device:
             return ("rests",)
         return ("goes", self._done, self._part)
 
+    def old_edition(self):
+        """Tell the old edition of what is under way, None, if nothing is."""
+        return None if self._work is None else self._work.before
+
+    def places(self):
+        """Tell what both places hold: a mark, or None, if torn."""
+        return list(self._places)
+
     def twin(self):
         """Tell another device that stands as this one does."""
         other = Device(b"")
@@ -146,7 +156,7 @@ class Device:
         self._done = self._mark()
         self._marked = 0
         self._part = 0
-        if self._work is not None and self._done > 0:
+        if self._done > 0:
             self._marked = self._work.marks.index(self._done) + 1
 
     def _end_if_done(self):
@@ -188,3 +198,24 @@ class Device:
         if None in self._places:
             return self._places.index(None)
         return self._places.index(min(self._places))
+
+
+def resting(cells, wear, places_worn, many):
+    """Tell a device at rest that holds the bytes of so many of its cells."""
+    device = Device(b"")
+    device._cells = list(cells)
+    device._wear = list(wear)
+    device._places_worn = list(places_worn)
+    device._many = many
+    return device
+
+
+def amid(device, work, places, done, part):
+    """Tell a twin of a device at rest that is as far with this work."""
+    other = device.twin()
+    other._work = work
+    other._places = list(places)
+    other._go_on_from_mark()
+    other._done = done
+    other._part = part
+    return other

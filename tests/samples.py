@@ -3,6 +3,8 @@
 import itertools
 import random
 
+from patchover.shops import Shop
+
 FULL = bytes(range(200))
 
 # Pieces at the edges of what can be.
@@ -72,3 +74,27 @@ def copying_patch(chance, pieces, longest):
             patch.append(("copy", chance.randrange(sum(lengths)), length))
         start += length
     return tuple(patch)
+
+
+# Editions of which least patches copy, bring and lead around in rings.
+EDITIONS = {
+    "a": b"abcdefghijklmnop",
+    "b": b"ijklmnopabcdefgh",
+    "c": b"abcdefgh!ijklmnop",
+    "d": b"abcd" * 3,
+    "e": b"",
+    "f": b"abcdefghijklmnopq",
+}
+
+# Two editions of 15 blocks, which change places around through all of them.
+TURN = (1, 14, 6, 5, 0, 10, 7, 13, 12, 8, 2, 9, 4, 11, 3)
+BLOCKS = bytes(range(120))
+TURNED = b"".join([BLOCKS[8 * block:8 * block + 8] for block in TURN])
+
+
+def shop_of_editions(editions):
+    """Tell a shop that has these editions, all whole."""
+    shop = Shop()
+    for name, edition in editions.items():
+        shop.put(name, edition)
+    return shop
