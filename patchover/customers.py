@@ -27,7 +27,7 @@ class Customer:
 
     def names(self):
         """Tell the name that it has, and behind it those that it is to come to."""
-        return [self.name, *[name for name, _ in self.legs()]]
+        return [self.name] + [name for name, _ in self.legs()]
 
     def go(self, many):
         """Do so many writes, beginning patches that wait, and tell how many were done."""

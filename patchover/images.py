@@ -10,8 +10,8 @@ def device_bytes(device):
     """Tell the image of a device."""
     asleep = device.stands()[0] == "asleep"
     under_way = device.under_way()
-    some = bytes([DEVICE, *[device.peek(cell) for cell in range(CELLS)]])
-    some += numbers_bytes([*device.wear(), *device.places_worn()])
+    some = bytes([DEVICE]) + bytes([device.peek(cell) for cell in range(CELLS)])
+    some += numbers_bytes(device.wear()) + numbers_bytes(device.places_worn())
     some += bytes([(0 if under_way is None else 1) + (2 if asleep else 0)])
     if under_way is None:
         some += number_code(len(device.edition()))

@@ -20,7 +20,7 @@ class Shop:
     """A shop, its editions, and the devices that it gave."""
 
     def __init__(self):
-        # These four are replaced by each deed, never changed: so what stood ahead of it can be kept.
+        # Deeds replace these four, and never change them: so what stood ahead of a deed can be kept.
         self._editions = {}
         self._leans = {}
         self._customers = []
@@ -246,7 +246,7 @@ class Shop:
 
     def _replace(self, number, customer):
         """Put a device in the place of the one with its number."""
-        self._customers = [*self._customers[:number], customer, *self._customers[number + 1:]]
+        self._customers = self._customers[:number] + [customer] + self._customers[number + 1:]
 
 
 def again(deeds):

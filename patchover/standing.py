@@ -101,7 +101,7 @@ def editions_of(kept):
 def stands_so(house, device, editions):
     """Tell whether a device of a house, and what it was sent, can stand so."""
     name, begun, legs, _ = house
-    names = [name, *[other for other, _ in legs]]
+    names = [name] + [other for other, _ in legs]
     if [other for other in names if other not in editions]:
         return False
     for one, (other, patch) in zip(names, legs):
